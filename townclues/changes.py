@@ -1,0 +1,31 @@
+"""The calls that change a town."""
+
+from townclues.model import count_towers, is_cell, is_line, line_clue
+from townclues.refusals import NO_SUCH, NONE_THERE, TOWER_STANDS
+
+
+def answer_build(town, cell, height):
+    if not is_cell(town, cell) or height < 1 or height > town.n:
+        return [NO_SUCH]
+    if town.cells[cell] > 0:
+        return [TOWER_STANDS]
+    town.cells[cell] = height
+    return [count_towers(town)]
+
+
+def answer_tear(town, cell):
+    if not is_cell(town, cell):
+        return [NO_SUCH]
+    height = town.cells[cell]
+    if height == 0:
+        return [NONE_THERE]
+    town.cells[cell] = 0
+    return [height]
+
+
+def answer_tell(town, side, i, clue):
+    if not is_line(town, side, i) or clue > town.n:
+        return [NO_SUCH]
+    before = line_clue(town, side, i)
+    town.clues[side * town.n + i] = clue
+    return [before]
