@@ -2,6 +2,7 @@
 
 import functools
 import itertools
+import unittest
 
 from townclues.town import answers
 
@@ -9,12 +10,21 @@ BIG = 4294967295
 
 NUMBERS = {
     "start": 0, "build": 1, "tear": 2, "tell": 3, "at": 4, "seen": 5, "clue": 6, "clash": 7,
-    "done": 8, "count": 9, "nth": 10, "sure": 11, "could": 12, "known": 13}
+    "done": 8, "count": 9, "nth": 10, "sure": 11, "could": 12, "known": 13, "line": 14, "hint": 15,
+    "solve": 16, "fill": 17, "spare": 18, "views": 19, "clear": 20, "ask": 21, "turn": 22, "mirror": 23,
+    "text": 24, "back": 25, "again": 26, "state": 27}
+
+CHANGES = ("build", "tear", "tell", "solve", "fill", "clear", "ask", "turn", "mirror")
 
 # Every call but start, once each, with arguments that are in order for every size.
 EACH_CALL = [
     ("build", 0, 1), ("tear", 0), ("tell", 0, 0, 1), ("at", 0), ("seen", 0, 0), ("clue", 0, 0), ("clash",),
-    ("done",), ("count",), ("nth", 0), ("sure", 0), ("could", 0), ("known",)]
+    ("done",), ("count",), ("nth", 0), ("sure", 0), ("could", 0), ("known",), ("line", 0, 0), ("hint",), ("solve",),
+    ("fill", 0), ("spare",), ("views",), ("clear",), ("ask",), ("turn",), ("mirror",), ("text",), ("back",),
+    ("again",), ("state",)]
+
+# Those of them that only look.
+EACH_LOOK = [call for call in EACH_CALL if call[0] not in CHANGES + ("back", "again")]
 
 
 def encode(calls):
@@ -48,6 +58,8 @@ def decode(numbers):
 
 def ask(*calls):
     """The answers to these calls, a list each."""
+    if not 1 <= len(calls) <= 200:
+        raise AssertionError("no such list is handed in")
     return decode(answers(encode(calls)))
 
 
@@ -79,13 +91,33 @@ def written(n, cells, clues):
 
 def whole(n):
     """Calls that ask all there is to be asked about a town as it stands."""
-    calls = [("clash",), ("done",), ("count",), ("known",)]
+    calls = [
+        ("clash",), ("done",), ("count",), ("known",), ("hint",), ("spare",), ("views",), ("text",), ("state",)]
     for cell in range(n * n):
         calls += [("at", cell), ("sure", cell), ("could", cell)]
     for side in range(4):
         for i in range(n):
-            calls += [("seen", side, i), ("clue", side, i)]
+            calls += [("seen", side, i), ("line", side, i)]
     return calls
+
+
+def text_of(start):
+    """What text answers of a town that has just been started from this text, as it's written."""
+    data = list(start[2].encode("ascii"))
+    return [len(data)] + data
+
+
+class Unchanged(unittest.TestCase):
+
+    def refuses(self, start, call, number):
+        """The call is refused, and all is as if it had not been called: the town, and its changes."""
+        n = start[1]
+        # Changes that can be taken back and done again, but leave the town as it was.
+        ahead = [start, ("mirror",), ("mirror",), ("mirror",), ("back",)]
+        behind = whole(n) + [("back",), ("text",), ("again",), ("text",), ("again",), ("text",), ("state",)]
+        found = ask(*ahead, call, *behind)
+        self.assertEqual([number], found[5], call)
+        self.assertEqual(ask(*ahead, *behind), found[:5] + found[6:], call)
 
 
 def line_of(square, n, side, i):
@@ -131,7 +163,15 @@ class SlowTown:
     def answer(self, call):
         if call[0] != "start" and self.n is None:
             return [-61]
-        return getattr(self, call[0])(*call[1:])
+        answer = getattr(self, call[0])(*call[1:])
+        if call[0] in CHANGES and answer[0] >= 0:
+            # Twenty can be taken back, so the moments behind twenty-one ones are of no use any more.
+            self.moments = (self.moments[:self.here + 1] + [self.moment()])[-21:]
+            self.here = len(self.moments) - 1
+        return answer
+
+    def moment(self):
+        return tuple(self.cells), tuple(self.clues)
 
     def start(self, n, text):
         if not 1 <= n <= 4:
@@ -154,6 +194,8 @@ class SlowTown:
         edges = [(k, 0) for k in inner] + [(n + 1, k) for k in inner]
         edges += [(k, n + 1) for k in inner] + [(0, k) for k in inner]
         self.clues = [signs.index(grid[edge]) for edge in edges]
+        self.moments = [self.moment()]
+        self.here = 0
         return [sum(1 for tower in self.cells if tower)]
 
     def build(self, cell, height):
@@ -244,6 +286,116 @@ class SlowTown:
             return [-33]
         cells = [cell for cell in range(self.n ** 2) if len({way[cell] for way in ways}) == 1]
         return [len(cells), *cells]
+
+    def rows(self, side, i):
+        """The ways of a line by itself, from its side on."""
+        towers = line_of(self.cells, self.n, side, i)
+        near, far = self.clues[side * self.n + i], self.clues[(side ^ 2) * self.n + i]
+        return [
+            row for row in itertools.permutations(range(1, self.n + 1))
+            if all(tower in (0, height) for tower, height in zip(towers, row))
+            and near in (0, seen_along(list(row))) and far in (0, seen_along(list(row[::-1])))]
+
+    def line(self, side, i):
+        if side > 3 or i >= self.n:
+            return [-22]
+        rows = self.rows(side, i)
+        if not rows:
+            return [-33]
+        return [len(rows)] + [sum(1 << (height - 1) for height in set(heights)) for heights in zip(*rows)]
+
+    def hint(self):
+        n = self.n
+        lines = [(side, i) for side in (3, 0) for i in range(n)]
+        if not all(self.rows(*line) for line in lines):
+            return [-33]
+        for line in lines:
+            cells = line_of(range(n * n), n, *line)
+            for cell, heights in zip(cells, zip(*self.rows(*line))):
+                if not self.cells[cell] and len(set(heights)) == 1:
+                    return [cell, heights[0]]
+        return [-6]
+
+    def solve(self):
+        if self.hint()[0] < 0:
+            return self.hint()
+        built = 0
+        while len(self.hint()) == 2:
+            cell, height = self.hint()
+            self.cells[cell] = height
+            built += 1
+        return [built]
+
+    def fill(self, k):
+        ways = self.ways()
+        if k >= len(ways):
+            return [-2]
+        stood = sum(1 for tower in self.cells if tower)
+        self.cells = list(ways[k])
+        return [self.n ** 2 - stood]
+
+    def spare(self):
+        number = len(self.ways())
+        if not number:
+            return [-33]
+        spared = []
+        for place, clue in enumerate(self.clues):
+            others = self.clues[:place] + [0] + self.clues[place + 1:]
+            if clue and len(ways_of(self.n, self.cells, others)) == number:
+                spared.append(place)
+        return [len(spared), *spared]
+
+    def views(self):
+        if not all(self.cells):
+            return [-12]
+        return [4 * self.n] + [self.seen(side, i)[0] for side in range(4) for i in range(self.n)]
+
+    def clear(self):
+        stood = sum(1 for tower in self.cells if tower)
+        self.cells = [0] * self.n ** 2
+        return [stood]
+
+    def ask(self):
+        views = self.views()
+        if views[0] > 0:
+            self.clues = views[1:]
+        return views[:1]
+
+    def redraw(self, lines):
+        """The town and its clues are what these lines show."""
+        moments, here = self.moments, self.here
+        self.start(*begin(*lines)[1:])
+        self.moments, self.here = moments, here
+        return [0]
+
+    def lines(self):
+        return written(self.n, self.cells, self.clues)[2].splitlines()
+
+    def turn(self):
+        return self.redraw(["".join(column) for column in zip(*self.lines()[::-1])])
+
+    def mirror(self):
+        return self.redraw([line[::-1] for line in self.lines()])
+
+    def text(self):
+        return text_of(written(self.n, self.cells, self.clues))
+
+    def go(self, steps):
+        if not 0 <= self.here + steps < len(self.moments):
+            return False
+        self.here += steps
+        self.cells, self.clues = map(list, self.moments[self.here])
+        return True
+
+    def back(self):
+        return [self.here] if self.go(-1) else [-2]
+
+    def again(self):
+        return [len(self.moments) - 1 - self.here] if self.go(1) else [-2]
+
+    def state(self):
+        told = [sum(1 for number in numbers if number) for numbers in (self.cells, self.clues)]
+        return [told[0], self.n, told[1], self.here, len(self.moments) - 1 - self.here]
 
 
 def slow_answers(calls):

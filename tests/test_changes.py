@@ -1,20 +1,10 @@
-"""Point 2: build, tear and tell."""
+"""Point 2: build, tear, tell and clear; and fill of point 6."""
 
 import unittest
 
-from tests.helper import BIG, ask, begin, empty, whole
+from tests.helper import BIG, Unchanged, ask, begin, empty, last, latin_squares, text_of, ways_of, written
 
 THREE = begin(" 1.. ", ".3..2", "..1..", "2...3", " .2. ")
-
-
-class Unchanged(unittest.TestCase):
-
-    def refuses(self, start, call, number):
-        """The call is refused, and all is as if it had not been called."""
-        n = start[1]
-        found = ask(start, call, *whole(n))
-        self.assertEqual([number], found[1], call)
-        self.assertEqual(ask(start, *whole(n)), found[:1] + found[2:], call)
 
 
 class Build(Unchanged):
@@ -124,6 +114,82 @@ class Tell(Unchanged):
     def test_towers_stand_as_they_did(self):
         found = ask(THREE, ("tell", 3, 0, 3), ("at", 0), ("at", 4), ("at", 1))
         self.assertEqual([[2], [0], [3, 7], [1, 7], [0, 2]], found)
+
+
+class Clear(Unchanged):
+
+    def test_answers_how_many_stood(self):
+        self.assertEqual([[2], [2], [0]], ask(THREE, ("clear",), ("clear",)))
+        for n in range(1, 5):
+            for many in range(n * n + 1):
+                start = written(n, [n] * many + [0] * (n * n - many), [0] * (4 * n))
+                self.assertEqual([[many], [many], [0, n, 0, 1, 0]], ask(start, ("clear",), ("state",)))
+
+    def test_all_towers_are_gone_and_the_clues_stay(self):
+        bare = begin(" 1.. ", "....2", ".....", "2...3", " .2. ")
+        self.assertEqual(text_of(bare), last(THREE, ("clear",), ("text",)))
+        full = [1, 2, 3, 4, 2, 1, 4, 3, 3, 4, 1, 2, 4, 3, 2, 1]
+        clues = [4, 2, 0, 1, 0, 2, 2, 4, 1, 0, 2, 4, 4, 2, 2, 0]
+        self.assertEqual(text_of(written(4, [0] * 16, clues)), last(written(4, full, clues), ("clear",), ("text",)))
+
+    def test_a_tower_can_be_built_again(self):
+        found = ask(THREE, ("clear",), ("tear", 0), ("build", 0, 1), ("at", 0))
+        self.assertEqual([[2], [2], [-2], [1], [1, 7]], found)
+
+    def test_a_town_without_towers_is_changed_too(self):
+        found = ask(empty(2), ("clear",), ("state",), ("back",), ("state",))
+        self.assertEqual([[0], [0], [0, 2, 0, 1, 0], [0], [0, 2, 0, 0, 1]], found)
+
+
+class Fill(Unchanged):
+
+    def fills(self, n, cells, clues):
+        """Each way in its turn, and none behind the last."""
+        start = written(n, cells, clues)
+        ways = ways_of(n, cells, clues)
+        for k, way in enumerate(ways):
+            found = ask(start, ("fill", k), ("text",), ("state",), ("back",), ("text",))
+            self.assertEqual([cells.count(0)], found[1])
+            self.assertEqual(text_of(written(n, way, clues)), found[2])
+            self.assertEqual([n * n, n, 4 * n - clues.count(0), 1, 0], found[3])
+            self.assertEqual(text_of(start), found[5])
+        self.assertEqual([-2], last(start, ("fill", len(ways))))
+
+    def test_each_way_of_a_town_without_towers(self):
+        for n in range(1, 4):
+            self.fills(n, [0] * (n * n), [0] * (4 * n))
+
+    def test_with_some_towers_and_clues(self):
+        self.fills(4, [1, 0, 0, 0, 0, 2, 0, 0, 0, 0, 3, 0, 0, 0, 0, 4], [0] * 16)
+        self.fills(4, [0, 0, 0, 0, 0, 0, 4, 0, 0, 0, 0, 0, 0, 0, 0, 0], [2, 0, 0, 0] * 4)
+        for k, (square, views) in enumerate(latin_squares(4)[::41]):
+            cells = [height if (cell * 5 + k) % 3 == 0 else 0 for cell, height in enumerate(square)]
+            clues = [view if (place * 7 + k) % 5 == 0 else 0 for place, view in enumerate(views)]
+            self.fills(4, cells, clues)
+
+    def test_as_nth_tells(self):
+        start = begin(" .... ", "2.....", "...4..", "......", "......", " ..3. ")
+        number = last(start, ("count",))[0]
+        for k in (0, 1, number // 2, number - 1):
+            found = ask(start, ("nth", k), ("fill", k), ("nth", 0), ("count",), ("done",))
+            self.assertEqual([15], found[2])
+            self.assertEqual([found[1], [1], [1]], found[3:])
+
+    def test_a_full_town(self):
+        full = begin(" .. ", ".12.", ".21.", " .. ")
+        self.assertEqual([[4], [0], [4, 2, 0, 1, 0]], ask(full, ("fill", 0), ("state",)))
+        self.assertEqual(text_of(full), last(full, ("fill", 0), ("text",)))
+        self.refuses(full, ("fill", 1), -2)
+        self.refuses(begin(" .. ", ".12.", ".12.", " .. "), ("fill", 0), -2)
+        self.refuses(begin(" .. ", "112.", ".21.", " .. "), ("fill", 0), -2)
+
+    def test_there_is_no_kth(self):
+        for n, number in ((1, 1), (2, 2), (3, 12), (4, 576)):
+            for k in (number, BIG):
+                self.refuses(empty(n), ("fill", k), -2)
+        for start in (begin(" .. ", "1..1", "....", " .. "), begin(" 22 ", "....", "....", " .. ")):
+            for k in (0, 1, BIG):
+                self.refuses(start, ("fill", k), -2)
 
 
 if __name__ == "__main__":

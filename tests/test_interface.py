@@ -10,11 +10,15 @@ from unittest import mock
 
 from townclues.town import answers
 
-from tests.helper import BIG, EACH_CALL, ask, begin, decode, empty, encode, latin_squares, slow_answers, whole, written
+from tests.helper import (
+    BIG, EACH_CALL, ask, begin, decode, empty, encode, last, latin_squares, slow_answers, whole, written)
 
 MIXED = [
     ("count",), begin(" 12 ", "1.2.", "....", " .. "), ("build", 0, 1), ("build", 0, 2), ("nth", 0), ("known",),
-    ("start", 9, ""), ("tear", 1), ("tell", 0, 0, 0), ("at", 1), ("clash",), ("count",), ("nth", 1), ("nth", 2)]
+    ("start", 9, ""), ("tear", 1), ("tell", 0, 0, 0), ("at", 1), ("clash",), ("count",), ("nth", 1), ("nth", 2),
+    ("line", 3, 0), ("hint",), ("solve",), ("state",), ("back",), ("clear",), ("tell", 0, 1, 0), ("tell", 3, 0, 0),
+    ("fill", 1), ("views",), ("ask",), ("spare",), ("turn",), ("text",), ("mirror",), ("back",), ("back",), ("again",),
+    ("state",), ("text",), ("fill", 7), ("line", 4, 0)]
 
 
 class Form(unittest.TestCase):
@@ -27,6 +31,30 @@ class Form(unittest.TestCase):
             1, -61, 1, 0, 1, 1, 1, 2, 1, 0, 2, 0, 3, 1, 0, 1, 1, 2, 0, 0, 1, 0, 1, 1, 5, 4, 2, 1, 1, 2, 1, 1, 1, 1,
             5, 4, 0, 1, 2, 3]
         self.assertEqual(expected, answers(calls))
+
+    def test_by_the_documents_numbers_the_others(self):
+        text = [32, 46, 46, 32, 10, 49, 46, 46, 46, 10, 46, 46, 46, 46, 10, 32, 46, 46, 32]
+        calls = [
+            14, 0, 0, 17, 0, 27, 0, 2, 19] + text + [
+            14, 3, 0, 15, 16, 27, 25, 26, 19, 18, 21, 22, 23, 24, 20, 17, 1, 17, 0, 25, 25, 26, 27, 14, 4, 0]
+        text = [32, 49, 50, 32, 10, 49, 50, 49, 50, 10, 50, 49, 50, 49, 10, 32, 50, 49, 32, 10]
+        expected = [1, -61] * 3 + [
+            1, 0, 3, 1, 2, 1, 2, 0, 2, 1, 4, 5, 4, 2, 1, 1, 0, 1, 0, 1, 0, 9, 8, 1, 2, 2, 1, 2, 1, 1, 2, 2, 1, 6,
+            1, 8, 1, 0, 1, 0, 21, 20] + text + [1, 4, 1, -2, 1, 4, 1, 5, 1, 4, 1, 1, 5, 0, 2, 8, 5, 1, 1, -22]
+        self.assertEqual(expected, answers(calls))
+
+    def test_how_many_numbers_each_call_answers(self):
+        full = begin(" 4... ", ".1234.", ".2143.", ".3412.", ".4321.", " .... ")
+        sizes = {
+            "at": 2, "clash": 2, "hint": 2, "state": 5, "line": 5, "nth": 17, "known": 17, "spare": 2, "views": 17,
+            "text": 43}
+        for call in EACH_CALL:
+            ahead = {
+                "build": [("tear", 0)], "hint": [("tear", 0)], "solve": [("tear", 0)], "back": [("turn",)],
+                "again": [("turn",), ("back",)]}.get(call[0], [])
+            answer = last(full, *ahead, call)
+            self.assertEqual(sizes.get(call[0], 1), len(answer), call)
+            self.assertGreaterEqual(answer[0], 0, call)
 
     def test_a_refusal_is_its_number_alone(self):
         calls = [empty(2), ("at", 4), ("nth", 2), ("tell", 3, 0, 1), ("tell", 1, 0, 1), ("known",), ("tear", 0)]
@@ -51,10 +79,24 @@ class Form(unittest.TestCase):
         self.assertEqual([1, -71], answers([0, 1, 0]))
 
     def test_two_hundred_calls(self):
-        for call in (("count",), ("nth", 575), ("known",), ("could", 15), ("clash",)):
+        for call in (
+                ("count",), ("nth", 575), ("known",), ("could", 15), ("clash",), ("line", 0, 3), ("hint",), ("spare",),
+                ("text",), ("state",), ("turn",), ("mirror",), ("solve",), ("views",), ("clear",)):
             found = ask(empty(4), *[call] * 199)
             self.assertEqual(200, len(found))
             self.assertEqual([found[1]] * 199, found[1:])
+
+    def test_two_hundred_changes(self):
+        found = ask(empty(4), *[("turn",)] * 150, *[("back",)] * 24, *[("again",)] * 24, ("state",))
+        self.assertEqual(200, len(found))
+        twenty = [[k] for k in range(19, -1, -1)] + [[-2]] * 4
+        self.assertEqual([[0]] * 151 + twenty * 2 + [[0, 4, 0, 20, 0]], found)
+
+    def test_two_hundred_calls_of_all_sorts(self):
+        full = written(4, *latin_squares(4)[300])
+        for start in (full, written(4, [0] * 16, latin_squares(4)[300][1]), empty(4)):
+            calls = ([start] + EACH_CALL * 8)[:200]
+            self.assertEqual(slow_answers(calls), ask(*calls))
 
     def test_the_longest_starts(self):
         found = ask(*[("start", 4, [255] * 100)] * 199, empty(4))
@@ -114,16 +156,17 @@ class AgainstASlowTown(unittest.TestCase):
         return chance.choice([chance.randrange(below)] * 12 + [below, below + 1, BIG])
 
     def call(self, chance, n):
-        name = chance.choice(["build"] * 3 + ["tear"] * 2 + ["tell"] * 3 + [call[0] for call in EACH_CALL])
+        often = ["build"] * 5 + ["tear"] * 3 + ["tell"] * 5 + ["back"] * 3 + ["again"] * 2 + ["state", "text", "hint"]
+        name = chance.choice(often + [call[0] for call in EACH_CALL])
         if name == "build":
             return (name, self.number(chance, n * n), chance.choice([0, n + 1, BIG] + list(range(1, n + 1)) * 4))
         if name == "tell":
             return (name, self.number(chance, 4), self.number(chance, n), self.number(chance, n + 1))
-        if name in ("seen", "clue"):
+        if name in ("seen", "clue", "line"):
             return (name, self.number(chance, 4), self.number(chance, n))
         if name in ("tear", "at", "sure", "could"):
             return (name, self.number(chance, n * n))
-        if name == "nth":
+        if name in ("nth", "fill"):
             return (name, self.number(chance, chance.choice([1, 3, 20])))
         return (name,)
 

@@ -3,7 +3,7 @@
 import itertools
 import unittest
 
-from tests.helper import BIG, ask, begin, empty, last, whole, written
+from tests.helper import BIG, EACH_LOOK, ask, begin, empty, last, whole, written
 
 FOUR = begin(" 2..1 ", "31.4.2", "..4...", ".2..1.", "4....1", " .3.. ")
 FULL = begin(" .... ", ".1234.", ".2143.", ".3412.", ".4321.", " .... ")
@@ -181,6 +181,12 @@ class NothingChanges(unittest.TestCase):
         found = ask(FOUR, *whole(4), *whole(4))
         size = len(whole(4))
         self.assertEqual(found[1:size + 1], found[size + 1:])
+
+    def test_none_of_the_calls_that_look_does(self):
+        for start in (FOUR, FULL, empty(1), empty(4)):
+            for look in EACH_LOOK:
+                found = ask(start, ("text",), ("state",), look, ("text",), ("state",))
+                self.assertEqual(found[1:3], found[4:], look)
 
 
 if __name__ == "__main__":

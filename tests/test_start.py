@@ -148,7 +148,8 @@ class NotBegun(unittest.TestCase):
     def test_61_is_told_before_22(self):
         calls = [
             ("build", BIG, BIG), ("build", 0, 0), ("tear", BIG), ("tell", BIG, BIG, BIG), ("at", BIG), ("seen", BIG, 0),
-            ("clue", 0, BIG), ("nth", BIG), ("sure", BIG), ("could", BIG)]
+            ("clue", 0, BIG), ("nth", BIG), ("sure", BIG), ("could", BIG), ("line", BIG, BIG), ("line", 0, BIG),
+            ("fill", BIG)]
         self.assertEqual([[-61]] * len(calls), ask(*calls))
 
     def test_behind_a_start_that_was_refused(self):

@@ -1,7 +1,8 @@
-"""The calls that change a town."""
+"""The calls that build, tear down and tell."""
 
 from townclues.model import count_towers, is_cell, is_line, line_clue
 from townclues.refusals import NO_SUCH, NONE_THERE, TOWER_STANDS
+from townclues.ways import town_ways
 
 
 def answer_build(town, cell, height):
@@ -29,3 +30,18 @@ def answer_tell(town, side, i, clue):
     before = line_clue(town, side, i)
     town.clues[side * town.n + i] = clue
     return [before]
+
+
+def answer_clear(town):
+    stood = count_towers(town)
+    town.cells = [0] * len(town.cells)
+    return [stood]
+
+
+def answer_fill(town, k):
+    found = town_ways(town)
+    if k >= len(found):
+        return [NONE_THERE]
+    built = town.cells.count(0)
+    town.cells = found[k]
+    return [built]

@@ -1,7 +1,8 @@
 """The calls that tell how a town stands now."""
 
 from townclues.model import ABOVE, LEFT, SIDES
-from townclues.model import as_bits, count_seen, is_cell, is_line, line_cells, line_clue, line_towers
+from townclues.model import as_bits, count_clues, count_seen, count_towers, is_cell, is_line, line_cells, line_clue
+from townclues.model import line_towers
 from townclues.refusals import NO_SUCH
 
 
@@ -70,3 +71,7 @@ def answer_done(town):
     if 0 in town.cells or like_pairs(town) > 0 or wrong_clues(town) > 0:
         return [0]
     return [1]
+
+
+def answer_state(town):
+    return [count_towers(town), town.n, count_clues(town), len(town.earlier), len(town.later)]

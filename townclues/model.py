@@ -10,12 +10,17 @@ SIDES = 4
 
 
 class Town:
-    """The towers by cell and the clues by side times n, and i; 0 stands for none. An n of 0 is not begun."""
+    """The towers by cell and the clues by side times n, and i; 0 stands for none. An n of 0 is not begun.
+
+    Earlier and later hold towers and clues as they were: what back and what again come to, each from its end on.
+    """
 
     def __init__(self):
         self.n = 0
         self.cells = []
         self.clues = []
+        self.earlier = []
+        self.later = []
 
 
 def is_cell(town, cell):
@@ -48,6 +53,10 @@ def line_clue(town, side, i):
 
 def count_towers(town):
     return len([height for height in town.cells if height > 0])
+
+
+def count_clues(town):
+    return len([clue for clue in town.clues if clue > 0])
 
 
 def count_seen(towers):

@@ -24,6 +24,8 @@ def answer_start(town, n, text):
     town.n = n
     town.cells = cells
     town.clues = clues
+    town.earlier = []
+    town.later = []
     return [count_towers(town)]
 
 

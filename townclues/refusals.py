@@ -1,7 +1,8 @@
 """The numbers that are answered where a call is refused."""
 
 NONE_THERE = -2
-NOT_THE_SAME = -6
+UNSURE = -6
+NO_TOWER = -12
 TOWER_STANDS = -17
 NO_SUCH = -22
 NO_WAY = -33
